@@ -1,0 +1,1 @@
+"""Poolshares: amounts that hang on what happens, and how shares become calmer."""
