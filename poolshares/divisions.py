@@ -1,7 +1,7 @@
 """Divisions: the shares of several people in the same states."""
 
 from poolshares.checks import is_integer_to
-from poolshares.errors import NoAmounts, NoPeople, NoPerson, NoShare, NoText
+from poolshares.errors import NoAmounts, NoDivision, NoPeople, NoPerson, NoShare, NoText
 from poolshares.shares import Share, check_pair, spaced
 
 FEWEST_PEOPLE = 2
@@ -72,6 +72,12 @@ class Division:
 
     def __repr__(self):
         return f"Division({self.people} people, {self.states} states)"
+
+
+def check_division(thing):
+    """NoDivision unless the value is a division."""
+    if not isinstance(thing, Division):
+        raise NoDivision("not a division")
 
 
 def read_share(line):

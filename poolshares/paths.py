@@ -1,6 +1,6 @@
 """Paths: how a share becomes a calmer one by single units, or where this fails."""
 
-from poolshares.checks import is_integer_to
+from poolshares.checks import is_integer_to, is_pair
 from poolshares.shares import check_pair, is_amounts, is_calm
 
 
@@ -14,7 +14,7 @@ def path(one, other):
 def shows_path(one, other, thing):
     """Whether any value shows that other is at least as calm as one, or that it is not."""
     check_pair(one, other)
-    if not isinstance(thing, tuple) or len(thing) != 2:
+    if not is_pair(thing):
         return False
     word, reason = thing
     if word == "calmer":

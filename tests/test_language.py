@@ -14,7 +14,7 @@ WORDS = (
 ).split()
 BUILTINS = (
     "len range enumerate zip min max sum abs sorted reversed int str bool list tuple dict set isinstance ord repr any "
-    "all divmod ValueError TypeError KeyError IndexError property classmethod staticmethod"
+    "all divmod ValueError TypeError KeyError IndexError property classmethod staticmethod super"
 ).split()
 
 
@@ -69,12 +69,36 @@ class TestLanguage(unittest.TestCase):
                     self.assertTrue(all(alias.asname is None and alias.name != "*" for alias in node.names))
 
     def test_names(self):
-        methods = "init eq repr len call getitem iter add radd".split()
+        methods = "init eq repr len call getitem iter add radd enter exit".split()
         for name, text in sources():
             for bound in bound_names(ast.parse(text)):
                 if bound not in [f"__{method}__" for method in methods]:
                     self.assertFalse(bound.startswith("_"), (name, bound))
                 self.assertNotIn(bound, dir(builtins))
+
+    def test_no_name_is_both_a_method_and_an_attribute(self):
+        methods, attributes = set(), set()
+        for _, text in sources():
+            for node in ast.walk(ast.parse(text)):
+                if isinstance(node, ast.ClassDef):
+                    methods |= {part.name for part in node.body if isinstance(part, ast.FunctionDef)}
+                elif isinstance(node, ast.Attribute) and isinstance(node.ctx, ast.Store):
+                    attributes.add(node.attr)
+        self.assertEqual(methods & attributes, set())
+
+    def test_no_local_name_is_that_of_an_import_or_a_class(self):
+        for name, text in sources():
+            taken, local = set(), set()
+            for node in ast.walk(ast.parse(text)):
+                if isinstance(node, ast.ImportFrom):
+                    taken |= {alias.name for alias in node.names}
+                elif isinstance(node, ast.ClassDef):
+                    taken.add(node.name)
+                elif isinstance(node, ast.arg):
+                    local.add(node.arg)
+                elif isinstance(node, ast.Name) and isinstance(node.ctx, ast.Store):
+                    local.add(node.id)
+            self.assertEqual(taken & local, set(), name)
 
     def test_no_values_outside_of_the_subset(self):
         for name, text in sources():

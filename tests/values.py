@@ -48,12 +48,28 @@ def not_shares():
     return others + odd_texts() + odd_tuples() + [0, 1, -1, 10 ** 13 - 1, (0, 1), (0, 1, 2), division, PLAIN]
 
 
+def not_divisions():
+    """Values that are not divisions, among them what divisions are made of."""
+    others = [thing for thing in odd_values() if not isinstance(thing, Division)]
+    shares = (Share((0, 1)), Share((1, 0)))
+    return others + odd_texts() + odd_tuples() + [0, 1, shares, list(shares), ((0, 1), (1, 0)), Division, PLAIN]
+
+
+def not_rings():
+    """Values that are not rings of any division."""
+    tuples = [((), ()), ((0,), (0,)), ((0, 1), (0,)), ((0, 1),), ((0, 1), (0, 1), (0, 1)), (((0, 1), (0, 1)),)]
+    return not_numbers() + tuples + [0, 1, -1, "ring", ("ring", ((0, 1), (0, 1))), ((0, 1), None), (None, (0, 1))]
+
+
 class Plain:
-    """An object that looks like a share, and is none."""
+    """An object that looks like a share or a division, and is none."""
 
     amounts = (0, 1)
     by_state = (0, 1)
     total = 1
+    people = 2
+    states = 2
+    totals = (1, 1)
 
     def __len__(self):
         return 2
