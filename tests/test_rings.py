@@ -1,7 +1,7 @@
 """[30] ring, shows_ring and exchanged."""
 
 import unittest
-from itertools import product
+from itertools import permutations, product
 
 from poolshares.divisions import Division
 from poolshares.errors import NoDivision, NoRing
@@ -63,6 +63,16 @@ class TestRing(unittest.TestCase):
         for division in drawn_divisions(30, 6):
             with self.subTest(division.text()):
                 self.assertEqual(ring(division), plain_ring(division))
+
+    def test_the_search_leaves_out_no_ring(self):
+        # plain_rings seats only people who rise; here every person is tried at every place.
+        for division in drawn_divisions(34, 1)[::3]:
+            for length in range(2, division.states + 1):
+                if division.people ** length <= 256:
+                    everything = product(permutations(range(division.states), length),
+                                         product(range(division.people), repeat=length))
+                    found = [thing for thing in everything if is_ring(division, *thing)]
+                    self.assertEqual(sorted(plain_rings(division, length)), found)
 
     def test_against_a_search_for_all_small_divisions(self):
         for rows in product(product(range(3), repeat=3), repeat=2):
